@@ -1,6 +1,9 @@
 package tests
 
 import (
+	"go/ast"
+	"go/parser"
+	"go/token"
 	"math"
 	"slices"
 	"sync"
@@ -204,8 +207,82 @@ func TestWeightsAreTheSameForAllWhoAskAtOnce(t *testing.T) {
 				if got := impl.WeightOf(row.nice); got != row.weight {
 					t.Errorf("WeightOf(%d) = %d", row.nice, got)
 				}
+				wantPart(t, row.nice, []int{row.nice}, row.weight, 2*row.weight)
 			}
 		})
 	}
 	wait.Wait()
+}
+
+// WeightOf tells the weight that the function works out, PartOf the one that
+// stands in the array (TestWhoReadsTheArrayOfWeights sees to that).
+func TestArrayAndFunctionTellTheSameWeight(t *testing.T) {
+	for nice := -4; nice <= 4; nice++ {
+		worked := impl.WeightOf(nice)
+		if stands, _, ok := impl.PartOf(nice, nil); !ok || stands != worked {
+			t.Errorf("nice %d: %d stands in the array, %d is worked out", nice, stands, worked)
+		}
+		if _, sum, ok := impl.PartOf(0, []int{nice}); !ok || sum != impl.WeightOf(0)+worked {
+			t.Errorf("nice %d among others: the sum is %d, %d is worked out", nice, sum, worked)
+		}
+		if impl.StepOf(nice)*worked != impl.Scale {
+			t.Errorf("nice %d: step %d, weight %d", nice, impl.StepOf(nice), worked)
+		}
+	}
+}
+
+// weightNames tells which names of the package level of l02_weight.go each of
+// its functions uses.
+func weightNames(t *testing.T) map[string][]string {
+	file, err := parser.ParseFile(token.NewFileSet(), "../impl/l02_weight.go", nil, 0)
+	if err != nil {
+		t.Fatal(err)
+	}
+	uses := map[string][]string{}
+	for _, decl := range file.Decls {
+		fn, ok := decl.(*ast.FuncDecl)
+		if !ok {
+			continue
+		}
+		ast.Inspect(fn.Body, func(n ast.Node) bool {
+			if id, ok := n.(*ast.Ident); ok && file.Scope.Lookup(id.Name) != nil {
+				uses[fn.Name.Name] = append(uses[fn.Name.Name], id.Name)
+			}
+			return true
+		})
+	}
+	return uses
+}
+
+func reaches(uses map[string][]string, from string, to string) bool {
+	seen := map[string]bool{}
+	var walk func(string) bool
+	walk = func(name string) bool {
+		if name == to {
+			return true
+		}
+		if seen[name] {
+			return false
+		}
+		seen[name] = true
+		return slices.ContainsFunc(uses[name], walk)
+	}
+	return walk(from)
+}
+
+func TestWhoReadsTheArrayOfWeights(t *testing.T) {
+	uses := weightNames(t)
+	for _, variable := range []string{"weightsOnce", "weights"} {
+		for _, name := range []string{"NiceOk", "WeightOf", "StepOf"} {
+			if reaches(uses, name, variable) {
+				t.Errorf("%s reads %s", name, variable)
+			}
+		}
+		if !reaches(uses, "PartOf", variable) {
+			t.Errorf("PartOf does not read %s", variable)
+		}
+	}
+	if reaches(uses, "PartOf", "WeightOf") {
+		t.Error("PartOf tells what WeightOf works out, not what stands in the array")
+	}
 }

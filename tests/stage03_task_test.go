@@ -648,7 +648,8 @@ func TestPutATaskThatIsWrong(t *testing.T) {
 	}
 }
 
-func TestPutIntoListsThatAreWrong(t *testing.T) {
+// wrongTaskLists are lists of each way in which one is not TasksOk.
+func wrongTaskLists() [][]impl.Task {
 	lists := [][]impl.Task{
 		tasksWith(2, 1), tasksWith(1, 1), tasksWith(1, 3, 2), tasksWith(2, 2, 3), tasksWith(1, 2, 2), tasksWith(3, 2, 4),
 		tasksWith(0), tasksWith(1001), tasksWith(-1, 3), tasksWith(1, math.MaxInt), make([]impl.Task, 1),
@@ -662,7 +663,11 @@ func TestPutIntoListsThatAreWrong(t *testing.T) {
 			lists = append(lists, list)
 		}
 	}
-	for _, list := range lists {
+	return lists
+}
+
+func TestPutIntoListsThatAreWrong(t *testing.T) {
+	for _, list := range wrongTaskLists() {
 		for _, no := range []int{1, 4, 7, 1000, 0, 1001, math.MinInt} {
 			wantNothingPut(t, list, changed(fairTask(), "No", no))
 		}
